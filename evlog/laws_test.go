@@ -349,7 +349,7 @@ func (d *dice) scribble(disk *sector.Disk, base, segs int) {
 	}
 }
 
-// P11.1 to P11.4: many calls on disks of all kinds, each held, with all that the disk has, against the document's words, and tripped at each of its steps.
+// P11.1 to P11.4: many calls on disks of all kinds, each held, with all that the disk has, against the document's words; Open is tripped at each of its steps, the other calls by chance.
 func TestAgainstTheWords(t *testing.T) {
 	for run := range 150 {
 		chance := dice(run)
